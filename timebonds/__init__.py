@@ -1,0 +1,1 @@
+"""Timebonds: times bound by one another."""
