@@ -3,11 +3,10 @@ import inspect
 import itertools
 import unittest
 
-from tests.oracle import holds
+from tests.oracle import BIG, holds
 from timebonds.bonds import first_unmet
 from timebonds.errors import BondError, NoDeed
 
-BIG = 10 ** 32 - 1
 FAR = 10 ** 31
 
 

@@ -121,3 +121,48 @@ class Forms(unittest.TestCase):
         for node, where in self.each_node(ast.Call):
             if isinstance(node.func, ast.Attribute):
                 self.assertIn(node.func.attr, METHODS | own, where)
+
+
+class Names(unittest.TestCase):
+    def test_no_two_files_draw_from_one_another(self):
+        drawn = {
+            f"timebonds.{path.stem}": {
+                node.module for node in ast.walk(ast.parse(path.read_text())) if isinstance(node, ast.ImportFrom)
+            }
+            for path in sources()
+        }
+        while drawn:
+            free = [module for module, others in drawn.items() if not others & set(drawn)]
+            self.assertNotEqual(free, [], f"a ring of imports among {sorted(drawn)}")
+            for module in free:
+                drawn.pop(module)
+
+    def test_names_come_from_the_file_that_defines_them(self):
+        for path in sources():
+            for node in ast.walk(ast.parse(path.read_text())):
+                if isinstance(node, ast.ImportFrom):
+                    source = PACKAGE.parent / (node.module.replace(".", "/") + ".py")
+                    defined = [top.name for top in ast.parse(source.read_text()).body if hasattr(top, "name")]
+                    for alias in node.names:
+                        self.assertIn(alias.name, defined, path.name)
+                        self.assertIsNone(alias.asname, path.name)
+
+    def test_nothing_is_a_method_here_and_a_value_there(self):
+        methods, values = set(), set()
+        for path in sources():
+            tree = ast.parse(path.read_text())
+            methods |= own_methods(tree)
+            values |= {
+                node.attr for node in ast.walk(tree)
+                if isinstance(node, ast.Attribute) and isinstance(node.ctx, ast.Store)
+            }
+        self.assertEqual(methods & values, set())
+
+    def test_no_local_is_called_like_a_class_or_an_import_of_its_file(self):
+        for path in sources():
+            nodes = list(ast.walk(ast.parse(path.read_text())))
+            taken = {node.name for node in nodes if isinstance(node, ast.ClassDef)}
+            taken |= {alias.name for node in nodes if isinstance(node, ast.ImportFrom) for alias in node.names}
+            local = {node.id for node in nodes if isinstance(node, ast.Name) and isinstance(node.ctx, ast.Store)}
+            local |= {node.arg for node in nodes if isinstance(node, ast.arg)}
+            self.assertEqual(local & taken, set(), path.name)

@@ -3,30 +3,9 @@ import itertools
 import random
 import unittest
 
-from tests.oracle import follow, has_ring, holds, is_ring, leads, least_lengths
+from tests.oracle import BIG, ManyCases, are_times, follow, has_ring, holds, is_ring, leads, least_lengths, some_bonds
 from timebonds.errors import NoDeed, NoTimes
 from timebonds.search import settle, shortest_chain, steps_of
-
-BIG = 10 ** 32 - 1
-
-
-def some_bonds(chance, count, size, reach):
-    """Bonds as the dice fall: with rings or without."""
-    return [
-        (chance.choice(("after", "by")), chance.randrange(count), chance.randrange(count),
-         chance.randint(-reach, reach))
-        for place in range(size)
-    ]
-
-
-def bonds_around(chance, times, size, room):
-    """Bonds that the times meet, with at most so much room."""
-    bonds = []
-    for place in range(size):
-        kind, one, two = chance.choice(("after", "by")), chance.randrange(len(times)), chance.randrange(len(times))
-        spare = chance.randint(0, room)
-        bonds.append((kind, one, two, times[two] - times[one] + (spare if kind == "by" else -spare)))
-    return bonds
 
 
 class SearchTest(unittest.TestCase):
@@ -35,13 +14,10 @@ class SearchTest(unittest.TestCase):
         self.assertIsInstance(answer, tuple)
         self.assertEqual(len(answer), 2)
         self.assertEqual(answer[0], kind)
-        self.assertIsInstance(answer[1], list)
         if kind == "ring":
             self.assertTrue(is_ring(bonds, answer[1]), answer[1])
         else:
-            self.assertEqual(len(answer[1]), count)
-            self.assertEqual(answer[1][0], 0)
-            self.assertTrue(all(holds(bond, answer[1]) for bond in bonds), answer[1])
+            self.assertTrue(are_times(count, bonds, answer[1]), answer[1])
         return answer[1]
 
     def check_chain(self, count, bonds, one, two, length):
@@ -215,13 +191,7 @@ class SeveralDeeds(SearchTest):
             self.assertEqual([(step.place, step.begin, step.end, step.most) for step in steps], told)
 
 
-class ManyBonds(SearchTest):
-    def test_all_pairs_of_small_bonds_of_two_deeds(self):
-        bonds = list(itertools.product(("after", "by"), (0, 1), (0, 1), (-1, 0, 1)))
-        for pair in itertools.product(bonds, repeat=2):
-            with self.subTest(pair=pair):
-                self.check_everything(2, list(pair))
-
+class ManyBonds(ManyCases, SearchTest):
     def test_against_times_tried_one_by_one(self):
         chance = random.Random(1)
         for turn in range(300):
@@ -231,32 +201,6 @@ class ManyBonds(SearchTest):
             met = any(all(holds(bond, times) for bond in bonds) for times in tried)
             with self.subTest(bonds=bonds):
                 self.check_settle(3, bonds, "times" if met else "ring")
-
-    def test_small_ones_as_the_dice_fall(self):
-        chance = random.Random(2)
-        for turn in range(1500):
-            count = chance.randint(1, 6)
-            bonds = some_bonds(chance, count, chance.randint(0, 9), chance.choice((1, 3, 9)))
-            with self.subTest(count=count, bonds=bonds):
-                self.check_everything(count, bonds)
-
-    def test_small_ones_with_little_room(self):
-        chance = random.Random(3)
-        for turn in range(500):
-            times = [chance.randint(-9, 9) for deed in range(chance.randint(1, 6))]
-            bonds = bonds_around(chance, times, chance.randint(0, 12), 1)
-            with self.subTest(bonds=bonds):
-                self.assertFalse(has_ring(len(times), bonds))
-                self.check_everything(len(times), bonds)
-
-    def test_thirty_deeds_and_a_hundred_bonds(self):
-        chance = random.Random(4)
-        for room in (0, 3, BIG):
-            times = [chance.randint(-BIG, BIG) // 4 for deed in range(30)]
-            bonds = bonds_around(chance, times, 100, room // 4)
-            with self.subTest(room=room):
-                self.assertFalse(has_ring(30, bonds))
-                self.check_everything(30, bonds)
 
     def test_thirty_deeds_and_a_hundred_bonds_with_rings(self):
         chance = random.Random(5)

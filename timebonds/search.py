@@ -40,6 +40,12 @@ def settle(count, steps):
     return ("ring", ring_behind(last, deed))
 
 
+def check_times(count, steps):
+    """Refuse steps that no times meet, wherever their ring lies."""
+    if settle(count, steps)[0] == "ring":
+        raise NoTimes("no times meet all bonds")
+
+
 def shortest_chain(count, steps, one, two):
     """The least length of a chain from `one` to `two` and such a chain, a pair; None where none leads there.
 
@@ -47,8 +53,12 @@ def shortest_chain(count, steps, one, two):
     """
     check_deed(count, one)
     check_deed(count, two)
-    if settle(count, steps)[0] == "ring":
-        raise NoTimes("no times meet all bonds")
+    check_times(count, steps)
+    return chain_between(count, steps, one, two)
+
+
+def chain_between(count, steps, one, two):
+    """As shortest_chain tells, for deeds that there are and steps that are known to have no ring."""
     least = [None] * count
     least[one] = 0
     last = [None] * count
